@@ -1,0 +1,1 @@
+"""Partline: texts told by the figures of one number."""
