@@ -30,9 +30,13 @@ def stretch_of(plan, signs):
     need_signs(plan, signs)
     stretch = WHOLE
     for sign in signs:
-        stretch = parted(stretch, share(plan, sign))
-        plan = behind(plan, sign)
+        stretch, plan = stepped(stretch, plan, sign)
     return stretch
+
+
+def stepped(stretch, plan, sign):
+    """Tell the stretch of a text with one more sign, and the plan behind that sign."""
+    return parted(stretch, share(plan, sign)), behind(plan, sign)
 
 
 def need_figures(figures):
@@ -44,9 +48,13 @@ def need_figures(figures):
 def figured(figures):
     """Tell the stretch of figures, which write a number by twos."""
     need_figures(figures)
-    number = 0
-    parts = 1
+    return lengthened(WHOLE, figures)
+
+
+def lengthened(stretch, figures):
+    """Tell the stretch of figures to which further ones came, from what it was before."""
+    number, wide, parts = stretch
     for figure in figures:
         number = 2 * number + figure
         parts = 2 * parts
-    return number, 1, parts
+    return number, wide, parts

@@ -1,5 +1,6 @@
 """Values that several tests hand in, and how they look at what became of them."""
 
+from fractions import Fraction
 from itertools import product
 
 
@@ -31,6 +32,22 @@ PLANS = [
     ((1, 2, 3, 4, 5, 6, 7, 8), 5),
 ]
 
+LEAST = 1
+GREATEST = 1000000
+
+# Of the least and the greatest counts and gains.
+LIMIT_PLANS = [
+    ((LEAST, LEAST), 0),
+    ((LEAST,) * 8, 0),
+    ((LEAST, LEAST), GREATEST),
+    ((LEAST,) * 8, GREATEST),
+    ((GREATEST, GREATEST), 0),
+    ((GREATEST,) * 8, GREATEST),
+    ((LEAST,) + (GREATEST,) * 7, 0),
+    ((GREATEST,) * 7 + (LEAST,), 0),
+    ((LEAST, GREATEST), GREATEST),
+]
+
 BAD_PLANS = (
     NO_TUPLES
     + [(), (1,), ((1, 1),), ((1, 1), 0, 0), ((1, 1), 0, None), (0, (1, 1)), (1, 1)]
@@ -42,6 +59,72 @@ BAD_PLANS = (
     + [((1, 1, count), 0) for count in NO_WHOLES + [0, -1, 1000001, -HUGE, HUGE]]
     + [((1, 1, 1, count, 1, 1, 1, 1), 0) for count in NO_WHOLES + [0, -1, 1000001]]
 )
+
+BAD_COUNTS = NO_WHOLES + [-1, 61, 62, -HUGE, HUGE]
+
+BAD_FIGURES = (
+    NO_LISTS
+    + [[bad] for bad in NO_WHOLES + [-1, 2, -HUGE, HUGE]]
+    + [[0, 1, bad, 1, 0] for bad in NO_WHOLES + [-1, 2]]
+    + [[0] * 4001, [1] * 5000, [0] * 4000 + [None]]
+)
+
+
+def bad_signs(plan):
+    """What is no list of signs of a plan, or no text of it."""
+    bad_ones = NO_WHOLES + [-1, len(plan[0]), -HUGE, HUGE]
+    return NO_LISTS + [[bad] for bad in bad_ones] + [[0, bad, 1] for bad in bad_ones] + [[0] * 61, [1] * 1000]
+
+
+def long_texts(plan):
+    """Some texts of a plan with 60 signs."""
+    many = len(plan[0])
+    last = many - 1
+    return [
+        [0] * 60,
+        [last] * 60,
+        [0, last] * 30,
+        [at % many for at in range(60)],
+        [(at * at + at // 7) % many for at in range(60)],
+        [last] + [0] * 59,
+        [0] * 59 + [last],
+    ]
+
+
+def figure_lists(many):
+    """All lists of so many figures, in the order of lists."""
+    return [list(figures) for figures in product((0, 1), repeat=many)]
+
+
+def ends(stretch):
+    """The numbers between which a stretch lies."""
+    low, wide, parts = stretch
+    return Fraction(low, parts), Fraction(low + wide, parts)
+
+
+def figure_ends(figures):
+    """The numbers between which the stretch of figures lies, halving by halving."""
+    low, wide = Fraction(0), Fraction(1)
+    for figure in figures:
+        wide = wide / 2
+        low = low + wide * figure
+    return low, low + wide
+
+
+def lies(inner, outer):
+    """Tell whether the numbers between some ends lie between other ones."""
+    return outer[0] <= inner[0] and inner[1] <= outer[1]
+
+
+def cuts(values, sizes):
+    """Cut a list into pieces, of these sizes over and over again."""
+    pieces = []
+    at = 0
+    while at < len(values):
+        size = sizes[len(pieces) % len(sizes)]
+        pieces.append(values[at:at + size])
+        at += size
+    return pieces
 
 
 def texts(plan, many):

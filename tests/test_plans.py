@@ -2,10 +2,9 @@ import unittest
 
 from partline.errors import BadPlan, BadSign
 from partline.plans import behind, need_plan, need_signs, share
-from tests.samples import BAD_PLANS, HUGE, NO_LISTS, NO_WHOLES, PLANS, SLY, Unchanged, exact, refused
-
-LEAST = 1
-GREATEST = 1000000
+from tests.samples import (
+    BAD_PLANS, GREATEST, HUGE, LEAST, NO_LISTS, NO_WHOLES, PLANS, SLY, Unchanged, exact, refused,
+)
 
 
 class NeedPlanTest(unittest.TestCase):

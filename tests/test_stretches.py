@@ -5,13 +5,8 @@ from partline.errors import BadFigures, BadPlan, BadSign
 from partline.plans import behind, share
 from partline.stretches import WHOLE, figured, parted, stretch_of, within
 from tests.samples import (
-    BAD_PLANS, HUGE, NO_LISTS, NO_WHOLES, PLANS, SLY, Unchanged, exact, refused, texts,
+    BAD_PLANS, HUGE, NO_LISTS, NO_WHOLES, PLANS, SLY, Unchanged, ends, exact, refused, texts,
 )
-
-
-def ends(stretch):
-    low, wide, parts = stretch
-    return Fraction(low, parts), Fraction(low + wide, parts)
 
 
 class WholeTest(unittest.TestCase):
